@@ -1,0 +1,1 @@
+"""Two rivals: who may choose for a reader of endless rows."""
