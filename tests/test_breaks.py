@@ -3,8 +3,8 @@
 import itertools
 
 from tests import oracles
-from tests.tools import (WAYS_400, WAYS_401, PromiseCase, clean_reader, full_reader, junk, last_reader, letters_of,
-                         slip_reader, some_readers, some_rows, step_reader, told_otherwise)
+from tests.tools import (WAYS_400, WAYS_401, PromiseCase, clean_reader, far_reader, full_reader, junk, last_reader,
+                         letters_of, slip_reader, some_readers, some_rows, step_reader, told_otherwise)
 from tworivals.breaks import break_table, lets_by_breaks, next_standing, standing_behind, standings
 from tworivals.errors import InvalidLetter, InvalidReader, InvalidRow, InvalidStanding, InvalidWord
 from tworivals.readers import Reader
@@ -44,6 +44,13 @@ class TestNextStanding(PromiseCase):
         self.gives((((1, 2), (1, 2)), True), next_standing, reader, ((0, 1), (0,)), 0)
         self.gives((((1, 2), (1,)), False), next_standing, reader, ((0, 1), (0, 1)), 0)
 
+    def test_many_rooms(self):
+        reader = far_reader()
+        for lot in itertools.combinations(range(12), 2):
+            for clean in (lot, lot[:1], lot[1:]):
+                for letter in range(3):
+                    self.gives(oracles.going_on(reader, (lot, clean), letter), next_standing, reader, (lot, clean), letter)
+
     def test_what_is_clean_may_be_all(self):
         self.gives((FIRST, False), next_standing, clean_reader(), FIRST, 0)
         self.gives((FIRST, True), next_standing, slip_reader(), FIRST, 0)
@@ -79,7 +86,7 @@ class TestStandingBehind(PromiseCase):
         self.gives((((4,), (4,)), 4), standing_behind, step_reader(12), [1] * 4)
 
     def test_letter_by_letter(self):
-        for reader in some_readers(60) + [full_reader()]:
+        for reader in some_readers(60) + [full_reader(), far_reader()]:
             for begin, again in some_rows(reader.letters, 5, reader.many):
                 standing, broken = FIRST, 0
                 for letter in begin + again:

@@ -192,6 +192,11 @@ class TestSame(PromiseCase):
         self.gives(93, first_unlike, ((1,) * 40, shorter), ((1,) * 40, longer))
         self.gives(False, are_same, ((1,) * 40, shorter), ((1,) * 40, longer))
         self.gives(9, first_unlike, ((), (0, 0, 0, 0, 1)), ((), (0, 0, 0, 0, 1, 0, 0, 0)))
+        # The longer begin counts, whichever row has it.
+        row = ((), (0,) * 20 + (1,))
+        other = (tuple(letters_of(row, 40)), (0,))
+        self.gives(41, first_unlike, row, other)
+        self.gives(41, first_unlike, other, row)
         begin = (1,) * 40
         self.gives(40, first_unlike, (begin, (0,)), ((), (1,)))
         self.gives(40 + 39, first_unlike, (begin, (0,) * 39 + (1,)), (begin, (0,)))

@@ -3,8 +3,8 @@
 import random
 
 from tests import oracles
-from tests.tools import (PromiseCase, clean_reader, full_reader, junk, last_reader, letters_of, slip_reader, some_readers,
-                         some_rows, step_reader, told_otherwise)
+from tests.tools import (PromiseCase, clean_reader, far_reader, full_reader, junk, last_reader, letters_of, slip_reader,
+                         some_readers, some_rows, step_reader, told_otherwise)
 from tworivals.errors import InvalidReader, InvalidRow, InvalidRun, InvalidWord
 from tworivals.readers import Reader
 from tworivals.runs import clean_run, is_run, lets_by, rooms_behind, slips_of
@@ -230,7 +230,7 @@ class TestLetsBy(PromiseCase):
         self.assertGreater(min(found.values()), 150)
 
     def test_great_readers(self):
-        readers = [full_reader(), step_reader(0), step_reader(6), step_reader(12)]
+        readers = [full_reader(), far_reader(), step_reader(0), step_reader(6), step_reader(12)]
         for reader in readers:
             for row in some_rows(reader.letters, 8, 5):
                 self.cleanly(reader, row)
@@ -268,7 +268,7 @@ class TestRoomsBehind(PromiseCase):
         self.gives([3], rooms_behind, step_reader(5), [1, 0] * 3)
 
     def test_by_sets(self):
-        for reader in some_readers(60) + [full_reader()]:
+        for reader in some_readers(60) + [full_reader()] + [far_reader()] * 5:
             for word, more in some_rows(reader.letters, 6, reader.many):
                 self.gives(sorted(oracles.behind(reader, {0}, word + more)), rooms_behind, reader, word + more)
 

@@ -33,6 +33,8 @@ class TestShown(PromiseCase):
                 self.exactly(word, "let" if oracles.is_let(reader, row) else "barred")
                 self.assertIs(is_shown_by(reader, row, told), True)
                 self.gives(True, is_shown, reader, row, told)
+                parts = [type(part) for part in (paper if word == "let" else [paper])]
+                self.assertEqual(parts, [list] * len(parts))
                 other = "barred" if word == "let" else "let"
                 for value in ((other, paper), [word, paper], (word,), (word, paper, 0), (word, None), (paper, word),
                               (word.encode(), paper), (word.upper(), paper), (word + " ", paper), paper, word,

@@ -158,6 +158,15 @@ def step_reader(slips):
     return Reader(2, 12, ways)
 
 
+def far_reader():
+    """Twelve rooms, from each of which ways lead to few others, low ones and high ones."""
+    ways = []
+    for room in range(12):
+        ways += [(room, 0, (room + 8) % 12, 0), (room, 0, (room + 1) % 12, 1), (room, 1, (5 * room + 9) % 12, 1)]
+        ways += [(room, 1, room // 2, 0), (room, 2, room, room % 2), (room, 2, 11 - room, 0)]
+    return Reader(3, 12, ways)
+
+
 def full_reader():
     """As many letters, rooms and ways as there can be."""
     ways = []
