@@ -136,3 +136,114 @@ def coming_standings(reader):
                 known.add(to)
                 come.append(to)
     return sorted(come)
+
+
+FIRST = ((0,), (0,))
+
+
+def node_steps(reader, other, node):
+    """The steps from a node: tuples (letter, node, whether it is clean, whether it breaks)."""
+    room, standing = node
+    steps = []
+    for letter in range(reader.letters):
+        behind_it, breaks = going_on(other, standing, letter)
+        steps += [(letter, (way[2], behind_it), way[3] == 0, breaks) for way in ways_from(reader, room, letter)]
+    return steps
+
+
+def coming_nodes(reader, other):
+    """A dict: for each node that comes its steps."""
+    come = {(0, FIRST): None}
+    waiting = [(0, FIRST)]
+    for node in waiting:
+        come[node] = node_steps(reader, other, node)
+        for _, to, _, _ in come[node]:
+            if to not in come:
+                come[to] = None
+                waiting.append(to)
+    return come
+
+
+def least_numbers(steps, most):
+    """For each node the most worth of a row of steps; they grow from nought; None if some grows above the most.
+
+    The steps are told for each node by a list of tuples (node, worth).
+    """
+    numbers = dict.fromkeys(steps, 0)
+    changed = True
+    while changed:
+        changed = False
+        for node, onward in steps.items():
+            number = max([numbers[to] + worth for to, worth in onward], default=0)
+            if number > numbers[node]:
+                numbers[node] = number
+                changed = True
+            if number > most:
+                return None
+    return numbers
+
+
+def within_paper(reader, other):
+    steps = {node: [(to, int(breaks)) for _, to, clean, breaks in onward if clean]
+             for node, onward in coming_nodes(reader, other).items()}
+    numbers = least_numbers(steps, len(steps))
+    return None if numbers is None else sorted(numbers.items())
+
+
+def is_node(reader, other, value):
+    """Whether the value is a tuple of a room of the reader and a standing of the other one."""
+    return type(value) is tuple and len(value) == 2 and plain_count(value[0], reader.rooms) \
+        and is_standing(other, value[1])
+
+
+def is_within_paper(reader, other, value):
+    if type(value) not in (list, tuple):
+        return False
+    for item in value:
+        if type(item) is not tuple or len(item) != 2 or not is_node(reader, other, item[0]):
+            return False
+        if not plain_count(item[1], 10 ** 40):
+            return False
+    numbers = dict(value)
+    if list(value) != sorted(numbers.items()) or (0, FIRST) not in numbers:
+        return False
+    for node, number in numbers.items():
+        for _, to, clean, breaks in node_steps(reader, other, node):
+            if to not in numbers or clean and numbers[to] > number - int(breaks):
+                return False
+    return True
+
+
+def parts(reader, other, row):
+    return is_let(reader, row) and not is_let(other, row)
+
+
+def fewest(steps, start):
+    """For each node to which steps lead from the start the fewest of them; steps are told by a dict of lists."""
+    many = {start: 0}
+    waiting = [start]
+    for node in waiting:
+        for to in steps[node]:
+            if to not in many:
+                many[to] = many[node] + 1
+                waiting.append(to)
+    return many
+
+
+def is_short(steps, first, most=40):
+    """Whether at most so many steps lead to a node, and a ring of at most so many with a marked step goes through it.
+
+    The steps are told for each node by a list of tuples (node, kind): 0 for any, 1 for a marked, 2 for a barred one.
+    """
+    far = fewest({node: [to for to, _ in onward] for node, onward in steps.items()}, first)
+    twofold = {(node, seen): [(to, max(seen, kind)) for to, kind in onward if kind < 2]
+               for node, onward in steps.items() for seen in (0, 1)}
+    return any(many <= most and fewest(twofold, (node, 0)).get((node, 1), most + 1) <= most
+               for node, many in far.items())
+
+
+def is_soon_parted(reader, other):
+    """Whether a row of few letters comes of a ring of clean steps with a break."""
+    steps = {node: [(to, int(breaks) if clean else 2) for _, to, clean, breaks in onward]
+             for node, onward in coming_nodes(reader, other).items()}
+    return is_short(steps, (0, FIRST))

@@ -12,6 +12,9 @@ TESTS = os.path.dirname(os.path.abspath(__file__))
 EXAMPLES = os.path.join(TESTS, "examples.txt")
 README = os.path.join(os.path.dirname(TESTS), "README.md")
 
+# So many lines are asked in the examples; none of them is to be left out.
+EXAMPLES_TOLD = 50
+
 FILES = {
     "basics": ["is_integer", "is_count"],
     "rows": ["is_row", "letter_at", "spelled", "normal_row", "are_same", "first_unlike", "turned_on", "put_ahead",
@@ -22,9 +25,16 @@ FILES = {
     "heights": ["spots", "clean_ring", "least_heights", "height_paper", "is_height_paper"],
     "shown": ["shown", "is_shown", "all_let", "all_barred", "first_let", "first_barred"],
     "breaks": ["next_standing", "standing_behind", "standings", "break_table", "lets_by_breaks"],
+    "within": ["is_within", "are_equal", "within_paper", "is_within_paper", "parting_row", "is_parting_row"],
+    "boards": ["Board", "plain_winners"],
+    "peeling": ["pulled", "peeled", "winners", "plan_of", "is_plan"],
+    "umpires": ["is_play", "who_wins", "play_of", "plan_wins", "lost_play"],
+    "measures": ["win_paper", "is_win_paper"],
 }
 
-METHODS = ["ways", "way", "ways_by"]
+# For each class of the interface its methods, and its properties.
+CLASSES = {("readers", "Reader"): (["ways", "way", "ways_by"], ["letters", "rooms", "many"]),
+           ("boards", "Board"): (["owners", "ranks", "moves"], ["many"])}
 
 
 class TestInterface(unittest.TestCase):
@@ -32,7 +42,7 @@ class TestInterface(unittest.TestCase):
     def test_examples(self):
         told = doctest.testfile(EXAMPLES, module_relative=False)
         self.assertEqual(told.failed, 0)
-        self.assertEqual(told.attempted, 29)
+        self.assertEqual(told.attempted, EXAMPLES_TOLD)
 
     def test_the_readme(self):
         self.assertEqual(doctest.testfile(README, module_relative=False).failed, 0)
@@ -48,6 +58,15 @@ class TestInterface(unittest.TestCase):
             module = importlib.import_module(f"tworivals.{file}")
             for name in names:
                 self.assertEqual(list(inspect.signature(getattr(module, name)).parameters), PARAMETERS[name], name)
-        reader = importlib.import_module("tworivals.readers").Reader
-        for name in METHODS:
-            self.assertEqual(list(inspect.signature(getattr(reader, name)).parameters)[1:], PARAMETERS[name], name)
+        for (file, kind), (methods, _) in CLASSES.items():
+            made = getattr(importlib.import_module(f"tworivals.{file}"), kind)
+            for name in methods:
+                self.assertEqual(list(inspect.signature(getattr(made, name)).parameters)[1:], PARAMETERS[name], name)
+
+    def test_classes(self):
+        for (file, kind), (methods, properties) in CLASSES.items():
+            own = vars(getattr(importlib.import_module(f"tworivals.{file}"), kind))
+            for name in methods + ["__init__", "__eq__"]:
+                self.assertTrue(inspect.isfunction(own[name]), name)
+            for name in properties:
+                self.assertIsInstance(own[name], property, name)

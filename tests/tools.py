@@ -4,7 +4,8 @@ import copy
 import random
 import unittest
 
-from tworivals.errors import InvalidRow, TooMany
+from tworivals.boards import Board
+from tworivals.errors import InvalidRow, NoMove, TooMany, UnlikeLetters
 from tworivals.readers import Reader
 
 # The parameters of each function, as the interface names them.
@@ -25,6 +26,15 @@ PARAMETERS = {
     "all_barred": ["reader", "many"], "first_let": ["reader", "many"], "first_barred": ["reader", "many"],
     "next_standing": ["reader", "standing", "letter"], "standing_behind": ["reader", "word"],
     "standings": ["reader"], "break_table": ["reader"], "lets_by_breaks": ["reader", "row"],
+    "is_within": ["reader", "other"], "are_equal": ["reader", "other"], "within_paper": ["reader", "other"],
+    "is_within_paper": ["reader", "other", "value"], "parting_row": ["reader", "other"],
+    "is_parting_row": ["reader", "other", "value"],
+    "Board": ["owners", "ranks", "moves"], "owners": [], "ranks": [], "moves": [], "plain_winners": ["board"],
+    "pulled": ["board", "hand", "lot"], "peeled": ["board"], "winners": ["board"], "plan_of": ["board", "hand"],
+    "is_plan": ["board", "hand", "value"],
+    "is_play": ["board", "value"], "who_wins": ["board", "play"], "play_of": ["board", "place", "plan", "other"],
+    "plan_wins": ["board", "hand", "plan"], "lost_play": ["board", "hand", "place", "plan"],
+    "win_paper": ["board", "hand"], "is_win_paper": ["board", "hand", "value"],
 }
 
 
@@ -44,7 +54,7 @@ def junk():
         ([], []), ([0], [0]), ((0,), [0]), ([0], (0,)), ((False,), (False,)), ((), (True,)), ((), ("0",)),
         ((), ()), ((0,), ()), ((), (-1,)), ((), (4,)), ((), (0,), ()), ("let",), ("let", None), ("barred", [[]]),
         {}, {0: 0}, {"row": ((), (0,))}, set(), {0, 1}, range(2), object(), len, Reader, InvalidRow, InvalidRow(0),
-        Reader(1, 1, [(0, 0, 0, 0)]), deep(6), deep(15), [deep(9), deep(10)], (deep(4), deep(3)),
+        Reader(1, 1, [(0, 0, 0, 0)]), Board([0], [0], [[0]]), deep(6), deep(15), [deep(9), deep(10)], (deep(4), deep(3)),
     ]
 
 
@@ -112,13 +122,24 @@ class PromiseCase(unittest.TestCase):
             with self.subTest(function=function.__name__, value=value):
                 self.refuses(error, value, function, *passed)
 
+    def told_by(self, error, told, function, *arguments):
+        """Just this error is raised, which tells this by its attributes; by position and by name."""
+        for call in self.by_both(function, arguments):
+            with self.assertRaises(error) as caught:
+                call()
+            self.assertIs(type(caught.exception), error)
+            self.exactly({name: getattr(caught.exception, name) for name in told}, told)
+
     def too_many(self, what, limit, function, *arguments):
         """TooMany is raised, of what and with this limit."""
-        for call in self.by_both(function, arguments):
-            with self.assertRaises(TooMany) as caught:
-                call()
-            self.assertIs(type(caught.exception), TooMany)
-            self.exactly((caught.exception.what, caught.exception.limit), (what, limit))
+        self.told_by(TooMany, {"what": what, "limit": limit}, function, *arguments)
+
+    def unlike_letters(self, function, *arguments):
+        self.told_by(UnlikeLetters, {}, function, *arguments)
+
+    def no_move(self, place, function, *arguments):
+        """NoMove is raised, of this place."""
+        self.told_by(NoMove, {"place": place}, function, *arguments)
 
 
 # A row is let by if from some place on it has one letter alone.
@@ -197,6 +218,11 @@ def some_readers(many, seed=1):
         letters, rooms = source.randint(1, 4), source.randint(1, 5)
         readers.append(Reader(letters, rooms, some_ways(source, letters, rooms, source.randrange(1, 5))))
     return readers
+
+
+def round_reader(rooms, slips=()):
+    """One letter, by which one goes on to the next room, round; the ways from these rooms slip."""
+    return Reader(1, rooms, [(room, 0, (room + 1) % rooms, 1 if room in slips else 0) for room in range(rooms)])
 
 
 def some_row(source, letters, begin=4, again=5):

@@ -1,7 +1,7 @@
 """The checks of what is passed that need no Reader: each raises the error that belongs to its value."""
 
 from tworivals.basics import is_below, is_count, is_list, is_pair
-from tworivals.errors import InvalidLetter, InvalidLetters, InvalidMany, InvalidPlace, InvalidRoom
+from tworivals.errors import InvalidHand, InvalidLetter, InvalidLetters, InvalidMany, InvalidPlace, InvalidRoom
 from tworivals.errors import InvalidRooms, InvalidRow, InvalidWord
 
 MOST_LETTERS = 4
@@ -67,3 +67,9 @@ def check_many(many, most):
     """Only a COUNT that is not above the most passes."""
     if not is_below(many, most + 1):
         raise InvalidMany(many)
+
+
+def check_hand(hand):
+    """Only one of the two hands passes."""
+    if not is_below(hand, 2):
+        raise InvalidHand(hand)
