@@ -13,7 +13,7 @@ EXAMPLES = os.path.join(TESTS, "examples.txt")
 README = os.path.join(os.path.dirname(TESTS), "README.md")
 
 # So many lines are asked in the examples; none of them is to be left out.
-EXAMPLES_TOLD = 50
+EXAMPLES_TOLD = 79
 
 FILES = {
     "basics": ["is_integer", "is_count"],
@@ -30,6 +30,10 @@ FILES = {
     "peeling": ["pulled", "peeled", "winners", "plan_of", "is_plan"],
     "umpires": ["is_play", "who_wins", "play_of", "plan_wins", "lost_play"],
     "measures": ["win_paper", "is_win_paper"],
+    "plays": ["letter_board", "has_chooser", "chooser_paper", "foe_paper", "is_chooser_paper", "is_foe_paper"],
+    "choosers": ["is_table", "run_by", "keeps", "is_chooser", "chooser_of", "wrong_row", "is_wrong_row"],
+    "rivals": ["turned", "rival_board", "wins_rivals", "rivals_paper", "is_rivals_paper"],
+    "foes": ["foe_of", "is_foe", "spoilt_run", "spoilt_row", "beats"],
 }
 
 # For each class of the interface its methods, and its properties.

@@ -41,6 +41,23 @@ def slow_reader(rooms):
     return Reader(1, rooms, ways)
 
 
+def tail_reader(rooms, extra):
+    """One letter, by which one goes round, but for one way more; all its ways slip."""
+    return Reader(1, rooms, [(room, 0, (room + 1) % rooms, 1) for room in range(rooms)] + [(extra[0], 0, extra[1], 1)])
+
+
+def word_reader(rooms):
+    """Only what has 0s, and behind all but one of so many letters a 1, is gone cleanly."""
+    return Reader(2, rooms, [(room, letter, (room + 1) % rooms, int(letter != room // (rooms - 1)))
+                             for room in range(rooms) for letter in (0, 1)])
+
+
+def counting_reader(rooms):
+    """It slips at each 1 that is the last of so many."""
+    return Reader(2, rooms, [(room, 0, room, 0) for room in range(rooms)]
+                  + [(room, 1, (room + 1) % rooms, room // (rooms - 1)) for room in range(rooms)])
+
+
 class TestWithin(PromiseCase):
 
     def checked(self, reader, other):
@@ -195,6 +212,30 @@ class TestManyLetters(PromiseCase):
                 self.too_many("letters", 40, parting_row, reader, other)
         self.assertLess(behind[7], 41)
         self.assertGreater(behind[8], 40)
+
+    def test_just_40_steps_to_the_ring(self):
+        for rooms, extra, many in ((9, (3, 8), 39), (9, (4, 0), 40), (11, (3, 0), 40), (9, (5, 1), 41), (11, (4, 1), 41)):
+            reader, other = clean_reader(), tail_reader(rooms, extra)
+            steps = {node: [(to, 1) for _, to, _, _ in onward]
+                     for node, onward in oracles.coming_nodes(reader, other).items()}
+            self.assertEqual(oracles.is_short(steps, (0, FIRST), many), True)
+            self.assertEqual(oracles.is_short(steps, (0, FIRST), many - 1), False)
+            if many <= 40:
+                begin, again = self.ask(parting_row, reader, other, exact=False)
+                self.assertEqual((begin, again), ((0,) * many, (0,)))
+            else:
+                self.too_many("letters", 40, parting_row, reader, other)
+
+    def test_just_40_steps_round_the_ring(self):
+        for rooms, many in ((8, 5), (10, 4), (4, 10), (6, 7), (7, 6), (3, 12), (12, 4)):
+            reader, other = word_reader(rooms), counting_reader(many)
+            self.gives(False, is_within, reader, other)
+            if rooms * many <= 40:
+                begin, again = self.ask(parting_row, reader, other, exact=False)
+                self.assertEqual(len(again), rooms * many)
+                self.assertTrue(oracles.parts(reader, other, (begin, again)))
+            else:
+                self.too_many("letters", 40, parting_row, reader, other)
 
     def test_near_rings_may_be_too_long_and_far_ones_short(self):
         # Round and round without a break, until a 1; then many more 0s, and a short ring with a break.

@@ -35,6 +35,15 @@ PARAMETERS = {
     "is_play": ["board", "value"], "who_wins": ["board", "play"], "play_of": ["board", "place", "plan", "other"],
     "plan_wins": ["board", "hand", "plan"], "lost_play": ["board", "hand", "place", "plan"],
     "win_paper": ["board", "hand"], "is_win_paper": ["board", "hand", "value"],
+    "letter_board": ["reader"], "has_chooser": ["reader"], "chooser_paper": ["reader"], "foe_paper": ["reader"],
+    "is_chooser_paper": ["reader", "value"], "is_foe_paper": ["reader", "value"],
+    "is_table": ["reader", "value"], "run_by": ["reader", "table", "row"], "keeps": ["reader", "table", "row"],
+    "is_chooser": ["reader", "value"], "chooser_of": ["reader"], "wrong_row": ["reader", "table"],
+    "is_wrong_row": ["reader", "table", "value"],
+    "turned": ["reader", "state", "letter", "way", "ways"], "rival_board": ["reader", "many"],
+    "wins_rivals": ["reader", "many"], "rivals_paper": ["reader", "many"], "is_rivals_paper": ["reader", "many", "value"],
+    "foe_of": ["reader"], "is_foe": ["reader", "value"], "spoilt_run": ["reader", "foe", "table"],
+    "spoilt_row": ["reader", "foe", "table"], "beats": ["reader", "row", "table"],
 }
 
 

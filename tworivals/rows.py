@@ -33,14 +33,14 @@ def spelled(row, many):
 def normal_row(row):
     """The normal one of all rows that are the same as this."""
     check_row(MOST_LETTERS, row)
-    return _normal(row)
+    return normal_of(row)
 
 
 def are_same(row, other):
     """Whether both tell one endless row."""
     check_row(MOST_LETTERS, row)
     check_row(MOST_LETTERS, other)
-    return _normal(row) == _normal(other)
+    return normal_of(row) == normal_of(other)
 
 
 def first_unlike(row, other):
@@ -61,16 +61,16 @@ def turned_on(row, many):
     check_many(many, FARTHEST)
     begin, again = row
     if many <= len(begin):
-        return _normal((begin[many:], again))
+        return normal_of((begin[many:], again))
     gone = (many - len(begin)) % len(again)
-    return _normal(((), again[gone:] + again[:gone]))
+    return normal_of(((), again[gone:] + again[:gone]))
 
 
 def put_ahead(word, row):
     """The normal of the row that has the word's letters first."""
     check_word(MOST_LETTERS, word)
     check_row(MOST_LETTERS, row)
-    return _short_enough(_normal((tuple(word) + row[0], row[1])))
+    return short_enough(normal_of((tuple(word) + row[0], row[1])))
 
 
 def woven(row, other):
@@ -84,7 +84,7 @@ def woven(row, other):
     for place in range(ahead + rounds):
         letters.append(_letter(row, place))
         letters.append(_letter(other, place))
-    return _short_enough(_normal((tuple(letters[:2 * ahead]), tuple(letters[2 * ahead:]))))
+    return short_enough(normal_of((tuple(letters[:2 * ahead]), tuple(letters[2 * ahead:]))))
 
 
 def rows_to(letters, many):
@@ -118,16 +118,19 @@ def _shortest_round(again):
     return again
 
 
-def _normal(row):
+def normal_of(row):
+    """As normal_row, of letters so many as one likes."""
     begin, again = row
     again = _shortest_round(again)
-    while begin and begin[-1] == again[-1]:
-        again = again[-1:] + again[:-1]
-        begin = begin[:-1]
-    return begin, again
+    alike = 0
+    while alike < len(begin) and begin[-1 - alike] == again[-1 - alike % len(again)]:
+        alike += 1
+    back = alike % len(again)
+    return begin[:len(begin) - alike], again[len(again) - back:] + again[:len(again) - back]
 
 
-def _short_enough(row):
+def short_enough(row):
+    """The row, if it isn't too long to be one."""
     if len(row[0]) > LONGEST or len(row[1]) > LONGEST:
         raise TooMany("letters", LONGEST)
     return row

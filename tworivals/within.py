@@ -1,14 +1,13 @@
 """Whether the rows of one reader are among those of another one, with papers, and rows that part them [3b]."""
 
-from tworivals.basics import is_below, is_count, is_list, is_pair, is_rising
-from tworivals.breaks import FIRST_STANDING, coming_standings, gone_on, is_standing
+from tworivals.basics import is_count, is_list, is_pair, is_rising
+from tworivals.breaks import coming_standings, gone_on
 from tworivals.checks import is_row_of
 from tworivals.errors import UnlikeLetters
+from tworivals.positions import FIRST_POSITION, is_position
 from tworivals.readers import check_reader
 from tworivals.runs import lets_by
 from tworivals.trails import BARRED, MARKED, PLAIN, most_marked, row_round
-
-FIRST_NODE = (0, FIRST_STANDING)
 
 
 def is_within(reader, other):
@@ -42,7 +41,7 @@ def is_within_paper(reader, other, value):
     if not is_rising([node for node, _ in value]):
         return False
     numbers = {node: number for node, number in value}
-    return FIRST_NODE in numbers and all([_holds(reader, other, numbers, node) for node in numbers])
+    return FIRST_POSITION in numbers and all([_holds(reader, other, numbers, node) for node in numbers])
 
 
 def parting_row(reader, other):
@@ -71,8 +70,8 @@ def check_both(reader, other):
 def _coming_nodes(reader, other):
     """The tuple of the list of the nodes that come, the first one ahead, and of their steps, as trails take them."""
     onward = coming_standings(other)
-    nodes = [FIRST_NODE]
-    numbers = {FIRST_NODE: 0}
+    nodes = [FIRST_POSITION]
+    numbers = {FIRST_POSITION: 0}
     leads = []
     while len(leads) < len(nodes):
         room, standing = nodes[len(leads)]
@@ -100,10 +99,7 @@ def _ways_by(reader, room, letter):
 
 
 def _is_numbered(reader, other, value):
-    if not is_pair(value) or not is_pair(value[0]) or not is_count(value[1]):
-        return False
-    room, standing = value[0]
-    return is_below(room, reader.rooms) and is_standing(other, standing)
+    return is_pair(value) and is_position(reader.rooms, other, value[0]) and is_count(value[1])
 
 
 def _holds(reader, other, numbers, node):
