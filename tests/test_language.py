@@ -216,6 +216,10 @@ class TestLanguage(unittest.TestCase):
                 if isinstance(sign, (ast.Is, ast.IsNot)):
                     self.assertTrue(isinstance(right, ast.Constant) and right.value in (None, True, False), where)
 
+    def test_stars(self):
+        for where, node in self.each(ast.Subscript):
+            self.assertFalse([part for part in ast.walk(node.slice) if isinstance(part, ast.Starred)], where)
+
     def test_errors(self):
         for where, node in self.each(ast.ExceptHandler):
             self.assertIsNotNone(node.type, where)

@@ -35,7 +35,7 @@ def chooser_paper(reader):
         return None
 
     def goals_of(position):
-        return [told[("choice", *position, letter)] for letter in range(reader.letters)]
+        return [told[_choice(position, letter)] for letter in range(reader.letters)]
 
     positions, numbers = _coming(lambda position: [goal[1:3] for goal in goals_of(position)])
     most = most_worth([[(numbers[goal[1:3]], goal[3]) for goal in goals_of(position) if goal[3] < 2]
@@ -49,17 +49,17 @@ def foe_paper(reader):
     told = _winning_moves(reader, 1)
     if told is None:
         return None
+    letters = {name[1:]: goal[3] for name, goal in told.items() if name[0] == "position"}
 
     def steps_of(position):
-        return steps_by(reader, position, told[("position", *position)][3])
+        return steps_by(reader, position, letters[position])
 
     positions, numbers = _coming(lambda position: [to for _, to, _, _ in steps_of(position)])
     steps = [[(numbers[to], slip, breaks) for _, to, slip, breaks in steps_of(position)] for position in positions]
     broken = most_worth([[(to, 1 if breaks else 0) for to, _, breaks in onward] for onward in steps])
     clean = most_worth([[(to, 1) for to, slip, _ in onward if slip == 0 and broken[to] == broken[at]]
                         for at, onward in enumerate(steps)])
-    return sorted([(position, told[("position", *position)][3], (broken[at], clean[at]))
-                   for at, position in enumerate(positions)])
+    return sorted([(position, letters[position], (broken[at], clean[at])) for at, position in enumerate(positions)])
 
 
 def is_chooser_paper(reader, value):
@@ -90,11 +90,15 @@ def is_foe_paper(reader, value):
 
 def _goals(reader, name):
     """The names of the places to which one goes from the place of this name."""
-    kind, room, standing, last = name
-    if kind == "foe":
-        return [("choice", room, standing, letter) for letter in range(reader.letters)]
-    steps = steps_by(reader, (room, standing), last)
+    if name[0] == "foe":
+        return [_choice(name[1:3], letter) for letter in range(reader.letters)]
+    steps = steps_by(reader, name[1:3], name[3])
     return [_place_behind(to, slip, breaks) for _, to, slip, breaks in steps]
+
+
+def _choice(position, letter):
+    """The name of the place where hand 0 takes a way by the letter."""
+    return "choice", *position, letter
 
 
 def _place_behind(position, slip, breaks):
@@ -148,7 +152,7 @@ def _is_told_choice(reader, value):
     if not isinstance(value, tuple) or len(value) != 3 or not is_position(reader.rooms, reader, value[0]):
         return False
     (room, _), ways, number = value
-    if not is_list(ways) or len(ways) != reader.letters or not is_count(number):
+    if not is_list(ways) or not is_count(number):
         return False
     if not all([is_below(way, reader.many) for way in ways]):
         return False
