@@ -149,6 +149,12 @@ class TestLanguage(unittest.TestCase):
             for name in free:
                 del uses[name]
 
+    def test_all_that_is_imported_is_used(self):
+        for name, (_, tree) in self.files.items():
+            imported = {alias.name for node in tree.body if isinstance(node, ast.ImportFrom) for alias in node.names}
+            used = {node.id for node in ast.walk(tree) if isinstance(node, ast.Name)}
+            self.assertLessEqual(imported, used, name)
+
     def test_module_level(self):
         for name, (_, tree) in self.files.items():
             for at, node in enumerate(tree.body):

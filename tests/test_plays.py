@@ -161,7 +161,7 @@ class TestPapers(PromiseCase):
     def test_a_letter_that_hangs_on_the_position_alone(self):
         # The same position is come to by slips, by clean ways and by breaks: one letter has to do.
         for reader in small_readers(150, 8, sizes=((2, 4), (3, 3), (2, 3))) + doubtful_readers(200, 5):
-            board, names = play_oracles.letter_board(reader)
+            board, _ = play_oracles.letter_board(reader)
             if board is not None and board_oracles.winners_by_lifting(board)[0] == 1:
                 self.checked(reader, False)
 

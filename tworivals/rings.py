@@ -6,13 +6,13 @@ from tworivals.graphs import on_rings
 def lost_places(ranks, leads, hand):
     """The rising list of the places that have the greatest rank of some ring, one by which the hand loses."""
     lost = []
-    for rank in foul_ranks(hand):
+    for rank in _foul_ranks(hand):
         ringed = on_rings(leads_within(ranks, leads, rank))
         lost.extend([place for place, own in enumerate(ranks) if own == rank and ringed[place]])
     return sorted(lost)
 
 
-def foul_ranks(hand):
+def _foul_ranks(hand):
     """The ranks by which the hand loses, if they are the greatest ones that come again and again."""
     return (1,) if hand == 0 else (0, 2)
 

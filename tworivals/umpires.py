@@ -6,7 +6,7 @@ from tworivals.checks import check_hand
 from tworivals.errors import InvalidPlay, NoMove
 from tworivals.graphs import fewest_between, fewest_steps
 from tworivals.plans import check_plan, leads_along, winning_places
-from tworivals.rings import foul_ranks, leads_within, lost_places
+from tworivals.rings import leads_within, lost_places
 
 MOST_PLAYED = 1200
 
