@@ -13,7 +13,7 @@ EXAMPLES = os.path.join(TESTS, "examples.txt")
 README = os.path.join(os.path.dirname(TESTS), "README.md")
 
 # So many lines are asked in the examples; none of them is to be left out.
-EXAMPLES_TOLD = 79
+EXAMPLES_TOLD = 104
 
 FILES = {
     "basics": ["is_integer", "is_count"],
@@ -34,11 +34,18 @@ FILES = {
     "choosers": ["is_table", "run_by", "keeps", "is_chooser", "chooser_of", "wrong_row", "is_wrong_row"],
     "rivals": ["turned", "rival_board", "wins_rivals", "rivals_paper", "is_rivals_paper"],
     "foes": ["foe_of", "is_foe", "spoilt_run", "spoilt_row", "beats"],
+    "wishes": ["Wish", "wish_board", "stand_in_board", "wish_winner", "stand_in_winner", "is_wish_play", "row_of_play",
+               "wish_plan", "stand_in_plan", "is_wish_plan", "is_stand_in_plan"],
+    "failing": ["is_all_let", "let_paper", "is_let_paper", "barred_play", "spoil_paper", "is_spoil_paper"],
+    "failures": ["is_failing", "failing_paper", "is_failing_paper", "foe_wish", "failing_wish"],
+    "steps": ["follows", "following_paper", "leaving_paper", "is_following_paper", "is_leaving_paper", "followed_run"],
+    "joined": ["both_of", "either_of"],
 }
 
 # For each class of the interface its methods, and its properties.
 CLASSES = {("readers", "Reader"): (["ways", "way", "ways_by"], ["letters", "rooms", "many"]),
-           ("boards", "Board"): (["owners", "ranks", "moves"], ["many"])}
+           ("boards", "Board"): (["owners", "ranks", "moves"], ["many"]),
+           ("wishes", "Wish"): (["owners", "moves"], ["many"])}
 
 
 class TestInterface(unittest.TestCase):

@@ -225,6 +225,13 @@ class TestLanguage(unittest.TestCase):
     def test_stars(self):
         for where, node in self.each(ast.Subscript):
             self.assertFalse([part for part in ast.walk(node.slice) if isinstance(part, ast.Starred)], where)
+        for where, node in self.each(ast.Call):
+            starred = [at for at, part in enumerate(node.args) if isinstance(part, ast.Starred)]
+            if starred:
+                values = [getattr(part, "value", part) if isinstance(part, ast.Starred) else part for part in
+                          node.args[starred[0]:]]
+                for value in values:
+                    self.assertIsInstance(value, (ast.Name, ast.Attribute, ast.Constant, ast.List, ast.Tuple), where)
 
     def test_errors(self):
         for where, node in self.each(ast.ExceptHandler):

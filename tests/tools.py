@@ -7,6 +7,7 @@ import unittest
 from tworivals.boards import Board
 from tworivals.errors import InvalidRow, NoMove, TooMany, UnlikeLetters
 from tworivals.readers import Reader
+from tworivals.wishes import Wish
 
 # The parameters of each function, as the interface names them.
 PARAMETERS = {
@@ -44,6 +45,20 @@ PARAMETERS = {
     "wins_rivals": ["reader", "many"], "rivals_paper": ["reader", "many"], "is_rivals_paper": ["reader", "many", "value"],
     "foe_of": ["reader"], "is_foe": ["reader", "value"], "spoilt_run": ["reader", "foe", "table"],
     "spoilt_row": ["reader", "foe", "table"], "beats": ["reader", "row", "table"],
+    "Wish": ["places", "owners", "moves"], "wish_board": ["reader", "wish"], "stand_in_board": ["reader", "wish"],
+    "wish_winner": ["reader", "wish"], "stand_in_winner": ["reader", "wish"], "is_wish_play": ["wish", "value"],
+    "row_of_play": ["wish", "play"], "wish_plan": ["reader", "wish", "hand"],
+    "stand_in_plan": ["reader", "wish", "hand"], "is_wish_plan": ["reader", "wish", "hand", "value"],
+    "is_stand_in_plan": ["reader", "wish", "hand", "value"],
+    "is_all_let": ["reader", "wish"], "let_paper": ["reader", "wish"], "is_let_paper": ["reader", "wish", "value"],
+    "barred_play": ["reader", "wish"], "spoil_paper": ["reader", "wish"],
+    "is_spoil_paper": ["reader", "wish", "value"],
+    "is_failing": ["reader", "wish"], "failing_paper": ["reader", "wish"],
+    "is_failing_paper": ["reader", "wish", "value"], "foe_wish": ["reader", "foe"], "failing_wish": ["reader"],
+    "follows": ["reader", "other"], "following_paper": ["reader", "other"], "leaving_paper": ["reader", "other"],
+    "is_following_paper": ["reader", "other", "value"], "is_leaving_paper": ["reader", "other", "value"],
+    "followed_run": ["reader", "other", "paper", "run"],
+    "both_of": ["reader", "other"], "either_of": ["reader", "other"],
 }
 
 
@@ -63,8 +78,31 @@ def junk():
         ([], []), ([0], [0]), ((0,), [0]), ([0], (0,)), ((False,), (False,)), ((), (True,)), ((), ("0",)),
         ((), ()), ((0,), ()), ((), (-1,)), ((), (4,)), ((), (0,), ()), ("let",), ("let", None), ("barred", [[]]),
         {}, {0: 0}, {"row": ((), (0,))}, set(), {0, 1}, range(2), object(), len, Reader, InvalidRow, InvalidRow(0),
-        Reader(1, 1, [(0, 0, 0, 0)]), Board([0], [0], [[0]]), deep(6), deep(15), [deep(9), deep(10)], (deep(4), deep(3)),
+        Reader(1, 1, [(0, 0, 0, 0)]), Board([0], [0], [[0]]), Wish(1, [0], [[(0, 0)]]), deep(6), deep(15), [deep(9), deep(10)], (deep(4), deep(3)),
     ]
+
+
+def changed(value):
+    """Values with just one thing otherwise: a number, a kind, one left out, put in twice, or in another sequence."""
+    if isinstance(value, (list, tuple)):
+        kind = type(value)
+        yield tuple(value) if kind is list else list(value)
+        yield value + kind([0])
+        for at, item in enumerate(value):
+            yield value[:at] + value[at + 1:]
+            yield value[:at + 1] + value[at:]
+            if at > 0:
+                yield value[:at - 1] + kind([item, value[at - 1]]) + value[at + 1:]
+            for other in changed(item):
+                yield value[:at] + kind([other]) + value[at + 1:]
+    else:
+        yield from [None, "0", [value], (value,)]
+        if value is None:
+            yield 0
+        elif isinstance(value, int):
+            yield from [value + 1, value - 1, -value, 10 ** 29]
+            if value in (0, 1):
+                yield bool(value)
 
 
 def kinds(value):

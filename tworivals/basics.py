@@ -21,6 +21,11 @@ def is_list(value):
     return isinstance(value, (list, tuple))
 
 
+def are_below(bound, value):
+    """Whether the value is a list of COUNTS below the bound, perhaps of none."""
+    return is_list(value) and all([is_below(item, bound) for item in value])
+
+
 def is_pair(value):
     """Whether the value is a tuple of two."""
     return isinstance(value, tuple) and len(value) == 2

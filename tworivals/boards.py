@@ -1,6 +1,6 @@
 """Boards on which two hands move without end, and who wins from where, by going through all plans [4a1], [4a4]."""
 
-from tworivals.basics import is_below, is_list, is_rising
+from tworivals.basics import are_below, is_list, is_rising
 from tworivals.checks import check_place
 from tworivals.errors import InvalidBoard, InvalidMoves, InvalidOwners, InvalidRanks, TooMany
 from tworivals.graphs import fewest_steps, turned_round
@@ -14,9 +14,9 @@ class Board:
     """A board; it never changes."""
 
     def __init__(self, owners, ranks, moves):
-        if not _are_below(2, owners) or not 1 <= len(owners) <= MOST_PLACES:
+        if not are_below(2, owners) or not 1 <= len(owners) <= MOST_PLACES:
             raise InvalidOwners(owners)
-        if not _are_below(3, ranks) or len(ranks) != len(owners):
+        if not are_below(3, ranks) or len(ranks) != len(owners):
             raise InvalidRanks(ranks)
         if not _are_moves(len(owners), moves):
             raise InvalidMoves(moves)
@@ -75,11 +75,7 @@ def check_place_of(board, place):
 
 def are_places(many, value):
     """Whether the value is a rising list of places, so many there being, perhaps none."""
-    return _are_below(many, value) and is_rising(value)
-
-
-def _are_below(bound, value):
-    return is_list(value) and all([is_below(item, bound) for item in value])
+    return are_below(many, value) and is_rising(value)
 
 
 def _are_moves(many, value):

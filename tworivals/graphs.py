@@ -87,6 +87,38 @@ def most_worth(steps):
     return [most[part] for part in parts]
 
 
+def least_pairs(steps):
+    """For each node the pair (how many steps of a first kind come from it at most, how many of a second kind at most).
+
+    The first ones may have others between them; the second ones come one right behind another, between nodes with the
+    same first number. Steps are told for each node by a list of tuples (to, first, second): 1 if of this kind, or 0.
+    """
+    ones = most_worth([[(to, one) for to, one, _ in onward] for onward in steps])
+    twos = most_worth([[(to, 1) for to, _, two in onward if two == 1 and ones[to] == ones[node]]
+                       for node, onward in enumerate(steps)])
+    return [(many, twos[node]) for node, many in enumerate(ones)]
+
+
+def numbered(first, steps_of):
+    """The tuple of the list of the nodes that come, the first one ahead, and of the list of the steps from each.
+
+    steps_of tells of a node the list of its steps, tuples that begin with the node to which one leads; in what is told
+    they begin with this node's number.
+    """
+    nodes = [first]
+    numbers = {first: 0}
+    steps = []
+    while len(steps) < len(nodes):
+        told = []
+        for to, *rest in steps_of(nodes[len(steps)]):
+            if to not in numbers:
+                numbers[to] = len(nodes)
+                nodes.append(to)
+            told.append((numbers[to], *rest))
+        steps.append(told)
+    return nodes, steps
+
+
 def _ended(leads):
     """All nodes, as they come to an end: each behind all that were new when it went on to them."""
     ended = []

@@ -3,7 +3,7 @@
 from tworivals.basics import is_count, is_list, is_pair
 from tworivals.boards import are_places, check_board
 from tworivals.checks import check_hand
-from tworivals.graphs import most_worth
+from tworivals.graphs import least_pairs, most_worth
 from tworivals.peeling import plan_of, winners
 from tworivals.plans import is_plan_of, leads_along
 
@@ -49,10 +49,8 @@ def _first_numbers(board, leads):
 def _second_numbers(board, leads):
     """For each place how often rank 2 can come at most, and how often rank 0 ahead of another rank meanwhile."""
     ranks = board.ranks()
-    twos = most_worth([[(to, ranks[place] // 2) for to in onward] for place, onward in enumerate(leads)])
-    noughts = most_worth([[(to, 1) for to in onward if ranks[place] == 0 and twos[to] == twos[place]]
-                          for place, onward in enumerate(leads)])
-    return [(many, noughts[place]) for place, many in enumerate(twos)]
+    return least_pairs([[(to, ranks[place] // 2, 1 if ranks[place] == 0 else 0) for to in onward]
+                        for place, onward in enumerate(leads)])
 
 
 def _is_number(hand, value):

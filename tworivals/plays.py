@@ -3,11 +3,11 @@
 from tworivals.basics import is_below, is_count, is_list, is_pair, is_rising
 from tworivals.boards import Board
 from tworivals.breaks import coming_standings
-from tworivals.graphs import most_worth
-from tworivals.named import named_places
+from tworivals.graphs import least_pairs, most_worth, numbered
+from tworivals.named import named_places, position_named, winning_moves
 from tworivals.peeling import winners
 from tworivals.positions import FIRST_POSITION, is_position, steps_by
-from tworivals.pulls import Ground, peel
+from tworivals.pulls import ground_of
 from tworivals.readers import check_reader
 
 
@@ -33,13 +33,13 @@ def chooser_paper(reader):
     told = _winning_moves(reader, 0)
     if told is None:
         return None
+    _, goals = told
 
     def goals_of(position):
-        return [told[_choice(position, letter)] for letter in range(reader.letters)]
+        return [goals[_choice(position, letter)] for letter in range(reader.letters)]
 
-    positions, numbers = _coming(lambda position: [goal[1:3] for goal in goals_of(position)])
-    most = most_worth([[(numbers[goal[1:3]], goal[3]) for goal in goals_of(position) if goal[3] < 2]
-                       for position in positions])
+    positions, steps = numbered(FIRST_POSITION, lambda position: [(goal[1:3], goal[3]) for goal in goals_of(position)])
+    most = most_worth([[(to, rank) for to, rank in onward if rank < 2] for onward in steps])
     return sorted([(position, _ways_to(reader, position, goals_of(position)), most[at])
                    for at, position in enumerate(positions)])
 
@@ -49,17 +49,16 @@ def foe_paper(reader):
     told = _winning_moves(reader, 1)
     if told is None:
         return None
-    letters = {name[1:]: goal[3] for name, goal in told.items() if name[0] == "position"}
+    goals, _ = told
+    letters = {position: goal[3] for position, goal in goals.items()}
 
     def steps_of(position):
-        return steps_by(reader, position, letters[position])
+        return [(to, 1 if breaks else 0, 1 - slip)
+                for _, to, slip, breaks in steps_by(reader, position, letters[position])]
 
-    positions, numbers = _coming(lambda position: [to for _, to, _, _ in steps_of(position)])
-    steps = [[(numbers[to], slip, breaks) for _, to, slip, breaks in steps_of(position)] for position in positions]
-    broken = most_worth([[(to, 1 if breaks else 0) for to, _, breaks in onward] for onward in steps])
-    clean = most_worth([[(to, 1) for to, slip, _ in onward if slip == 0 and broken[to] == broken[at]]
-                        for at, onward in enumerate(steps)])
-    return sorted([(position, letters[position], (broken[at], clean[at])) for at, position in enumerate(positions)])
+    positions, steps = numbered(FIRST_POSITION, steps_of)
+    pairs = least_pairs(steps)
+    return sorted([(position, letters[position], pairs[at]) for at, position in enumerate(positions)])
 
 
 def is_chooser_paper(reader, value):
@@ -107,36 +106,12 @@ def _place_behind(position, slip, breaks):
 
 
 def _winning_moves(reader, hand):
-    """A dict: for names of places of the hand that of its winning move; None if it doesn't win.
+    """The hand's winning moves at positions and elsewhere, None if it doesn't win.
 
-    The foe names a letter at places ("position", room, standing), to which its other ones lead: so its letter
-    doesn't hang on how it came there.
+    The foe's letter doesn't hang on how one came to a position.
     """
     board, names = letter_board(reader)
-    owners, ranks, moves = board.owners(), board.ranks(), board.moves()
-    places = {}
-    for at, name in enumerate(list(names)):
-        if name[0] != "foe":
-            continue
-        if name[1:3] not in places:
-            places[name[1:3]] = len(names)
-            names.append(("position", *name[1:3]))
-            owners.append(1)
-            ranks.append(0)
-            moves.append(moves[at])
-        moves[at] = [places[name[1:3]]]
-    layers, first, second = peel(Ground(owners, ranks, moves))
-    winner = 1 if any([0 in layer for layer in layers]) else 0
-    if winner != hand:
-        return None
-    own = first if hand == 0 else second
-    return {names[place]: names[to] for place, to in own.items()}
-
-
-def _coming(positions_of):
-    """The tuple of the list of the positions that come, and of a dict of their places in it."""
-    positions, _ = named_places(FIRST_POSITION, positions_of)
-    return positions, {position: at for at, position in enumerate(positions)}
+    return winning_moves(ground_of(board), names, position_named, hand)
 
 
 def _ways_to(reader, position, goals):

@@ -82,6 +82,11 @@ def check_reader(reader):
         raise InvalidReader(reader)
 
 
+def ways_from(reader, room, letter):
+    """The list of the ways from the room by the letter."""
+    return [reader.way(number) for number in reader.ways_by(room, letter)]
+
+
 def is_single(reader):
     """Whether no room has a choice by any letter."""
     check_reader(reader)

@@ -5,7 +5,7 @@ from tworivals.breaks import coming_standings, gone_on
 from tworivals.checks import is_row_of
 from tworivals.errors import UnlikeLetters
 from tworivals.positions import FIRST_POSITION, is_position
-from tworivals.readers import check_reader
+from tworivals.readers import check_reader, ways_from
 from tworivals.runs import lets_by
 from tworivals.trails import BARRED, MARKED, PLAIN, most_marked, row_round
 
@@ -78,7 +78,7 @@ def _coming_nodes(reader, other):
         steps = []
         for letter in range(reader.letters):
             behind, breaks = onward[standing][letter]
-            for _, _, to, slip in _ways_by(reader, room, letter):
+            for _, _, to, slip in ways_from(reader, room, letter):
                 node = (to, behind)
                 if node not in numbers:
                     numbers[node] = len(nodes)
@@ -94,10 +94,6 @@ def _kind(slip, breaks):
     return MARKED if breaks else PLAIN
 
 
-def _ways_by(reader, room, letter):
-    return [reader.way(number) for number in reader.ways_by(room, letter)]
-
-
 def _is_numbered(reader, other, value):
     return is_pair(value) and is_position(reader.rooms, other, value[0]) and is_count(value[1])
 
@@ -107,7 +103,7 @@ def _holds(reader, other, numbers, node):
     room, standing = node
     for letter in range(reader.letters):
         behind, breaks = gone_on(other, standing, letter)
-        for _, _, to, slip in _ways_by(reader, room, letter):
+        for _, _, to, slip in ways_from(reader, room, letter):
             most = numbers[node] - 1 if breaks else numbers[node]
             if (to, behind) not in numbers or (slip == 0 and numbers[(to, behind)] > most):
                 return False
