@@ -13,7 +13,7 @@ EXAMPLES = os.path.join(TESTS, "examples.txt")
 README = os.path.join(os.path.dirname(TESTS), "README.md")
 
 # So many lines are asked in the examples; none of them is to be left out.
-EXAMPLES_TOLD = 104
+EXAMPLES_TOLD = 122
 
 FILES = {
     "basics": ["is_integer", "is_count"],
@@ -40,12 +40,24 @@ FILES = {
     "failures": ["is_failing", "failing_paper", "is_failing_paper", "foe_wish", "failing_wish"],
     "steps": ["follows", "following_paper", "leaving_paper", "is_following_paper", "is_leaving_paper", "followed_run"],
     "joined": ["both_of", "either_of"],
+    "cutting": ["is_cutting", "cutting", "first_cutting", "is_one_memory"],
+    "written": ["is_of_sort", "written", "read"],
+    "claims": ["words", "is_claim", "contrary", "is_true", "paper_of", "is_paper_of"],
+    "commands": ["is_name", "is_command", "is_deed"],
+    "desk": ["Desk", "Trial", "tried"],
 }
 
 # For each class of the interface its methods, and its properties.
 CLASSES = {("readers", "Reader"): (["ways", "way", "ways_by"], ["letters", "rooms", "many"]),
            ("boards", "Board"): (["owners", "ranks", "moves"], ["many"]),
-           ("wishes", "Wish"): (["owners", "moves"], ["many"])}
+           ("wishes", "Wish"): (["owners", "moves"], ["many"]),
+           ("desk", "Desk"): (["claim_of", "do", "do_all", "attempt", "attach", "fits", "lines", "copy"],
+                              ["names", "labels"])}
+
+# The methods between two underscores each that are asked for by their signs.
+SIGNS = {("readers", "Reader"): ["__eq__"], ("boards", "Board"): ["__eq__"], ("wishes", "Wish"): ["__eq__"],
+         ("desk", "Desk"): ["__len__", "__getitem__", "__contains__", "__call__"],
+         ("desk", "Trial"): ["__enter__", "__exit__"]}
 
 
 class TestInterface(unittest.TestCase):
@@ -77,7 +89,12 @@ class TestInterface(unittest.TestCase):
     def test_classes(self):
         for (file, kind), (methods, properties) in CLASSES.items():
             own = vars(getattr(importlib.import_module(f"tworivals.{file}"), kind))
-            for name in methods + ["__init__", "__eq__"]:
+            for name in methods + ["__init__"]:
                 self.assertTrue(inspect.isfunction(own[name]), name)
             for name in properties:
                 self.assertIsInstance(own[name], property, name)
+        for (file, kind), names in SIGNS.items():
+            own = vars(getattr(importlib.import_module(f"tworivals.{file}"), kind))
+            for name in names:
+                self.assertTrue(inspect.isfunction(own[name]), name)
+        self.assertIsInstance(vars(importlib.import_module("tworivals.desk").Desk)["again"], classmethod)

@@ -5,6 +5,7 @@ import random
 import unittest
 
 from tworivals.boards import Board
+from tworivals.desk import Desk
 from tworivals.errors import InvalidRow, NoMove, TooMany, UnlikeLetters
 from tworivals.readers import Reader
 from tworivals.wishes import Wish
@@ -59,6 +60,15 @@ PARAMETERS = {
     "is_following_paper": ["reader", "other", "value"], "is_leaving_paper": ["reader", "other", "value"],
     "followed_run": ["reader", "other", "paper", "run"],
     "both_of": ["reader", "other"], "either_of": ["reader", "other"],
+    "is_cutting": ["reader", "value"], "cutting": ["reader", "numbers"], "first_cutting": ["reader"],
+    "is_one_memory": ["reader"],
+    "is_of_sort": ["sort", "value"], "written": ["sort", "value"], "read": ["sort", "text"],
+    "words": [], "is_claim": ["value"], "contrary": ["claim"], "is_true": ["claim"], "paper_of": ["claim"],
+    "is_paper_of": ["claim", "value"],
+    "is_name": ["value"], "is_command": ["value"], "is_deed": ["value"],
+    "Desk": [], "Trial": ["desk"], "tried": ["desk", "action"], "claim_of": ["label"], "do": ["command"],
+    "do_all": ["commands"], "attempt": ["commands"], "attach": ["label", "paper"], "fits": ["label"], "lines": [],
+    "copy": [], "again": ["lines"],
 }
 
 
@@ -78,7 +88,7 @@ def junk():
         ([], []), ([0], [0]), ((0,), [0]), ([0], (0,)), ((False,), (False,)), ((), (True,)), ((), ("0",)),
         ((), ()), ((0,), ()), ((), (-1,)), ((), (4,)), ((), (0,), ()), ("let",), ("let", None), ("barred", [[]]),
         {}, {0: 0}, {"row": ((), (0,))}, set(), {0, 1}, range(2), object(), len, Reader, InvalidRow, InvalidRow(0),
-        Reader(1, 1, [(0, 0, 0, 0)]), Board([0], [0], [[0]]), Wish(1, [0], [[(0, 0)]]), deep(6), deep(15), [deep(9), deep(10)], (deep(4), deep(3)),
+        Reader(1, 1, [(0, 0, 0, 0)]), Board([0], [0], [[0]]), Wish(1, [0], [[(0, 0)]]), Desk(), deep(6), deep(15), [deep(9), deep(10)], (deep(4), deep(3)),
     ]
 
 
