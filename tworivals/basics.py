@@ -31,6 +31,11 @@ def is_pair(value):
     return isinstance(value, tuple) and len(value) == 2
 
 
+def are_told(value, fits):
+    """Whether the value is a list of tuples each of which fits, rising by what they begin with."""
+    return is_list(value) and all([fits(item) for item in value]) and is_rising([item[0] for item in value])
+
+
 def is_rising(values):
     """Whether each of the values, which can be compared, is above the one ahead of it."""
     return all([values[at] < values[at + 1] for at in range(len(values) - 1)])

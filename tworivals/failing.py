@@ -1,6 +1,6 @@
 """Wishes all of whose plays are let by, and hand 1's wins against their stand-ins, with papers of both [7b]."""
 
-from tworivals.basics import is_below, is_list, is_pair, is_rising
+from tworivals.basics import are_told, is_below, is_pair
 from tworivals.breaks import coming_standings, gone_on, is_standing
 from tworivals.graphs import fewest_between, most_worth, numbered, parts_of
 from tworivals.named import winning_moves
@@ -31,9 +31,7 @@ def let_paper(reader, wish):
 def is_let_paper(reader, wish, value):
     """Whether the value is a let paper."""
     check_wish_of(reader, wish)
-    if not is_list(value) or not all([_is_numbered_pair(reader, wish, item) for item in value]):
-        return False
-    if not is_rising([pair for pair, _ in value]):
+    if not are_told(value, lambda item: _is_numbered_pair(reader, wish, item)):
         return False
     numbers = {pair: number for pair, number in value}
     moves = wish.moves()
@@ -79,9 +77,7 @@ def spoil_paper(reader, wish):
 def is_spoil_paper(reader, wish, value):
     """Whether the value is a spoil paper."""
     check_wish_of(reader, wish)
-    if not is_list(value) or not all([_is_told_stand(reader, wish, item) for item in value]):
-        return False
-    if not is_rising([item[0] for item in value]):
+    if not are_told(value, lambda item: _is_told_stand(reader, wish, item)):
         return False
     numbers = {stand: number for stand, _, number in value}
     if FIRST_STAND not in numbers:

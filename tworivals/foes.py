@@ -1,6 +1,6 @@
 """Foes, who make of each chooser's choices a row that beats it [6b]."""
 
-from tworivals.basics import is_below, is_list, is_pair, is_rising
+from tworivals.basics import are_told, is_below, is_pair
 from tworivals.checks import check_row
 from tworivals.choosers import check_table, keeps
 from tworivals.errors import InvalidFoe
@@ -24,9 +24,7 @@ def foe_of(reader):
 def is_foe(reader, value):
     """Whether the value is a foe of the reader."""
     check_reader(reader)
-    if not is_list(value) or not all([_is_named(reader, item) for item in value]):
-        return False
-    if not is_rising([position for position, _ in value]):
+    if not are_told(value, lambda item: _is_named(reader, item)):
         return False
     numbers = {item[0]: at for at, item in enumerate(value)}
     steps = [steps_by(reader, position, letter) for position, letter in value]

@@ -109,8 +109,9 @@ def numbered(first, steps_of):
     numbers = {first: 0}
     steps = []
     while len(steps) < len(nodes):
+        onward = steps_of(nodes[len(steps)])
         told = []
-        for to, *rest in steps_of(nodes[len(steps)]):
+        for to, *rest in onward:
             if to not in numbers:
                 numbers[to] = len(nodes)
                 nodes.append(to)

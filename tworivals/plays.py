@@ -1,6 +1,6 @@
 """Letter plays: the foe names letters, hand 0 takes ways; who wins them, with papers of both [5a]."""
 
-from tworivals.basics import is_below, is_count, is_list, is_pair, is_rising
+from tworivals.basics import are_told, is_below, is_count, is_list, is_pair
 from tworivals.boards import Board
 from tworivals.breaks import coming_standings
 from tworivals.graphs import least_pairs, most_worth, numbered
@@ -64,9 +64,7 @@ def foe_paper(reader):
 def is_chooser_paper(reader, value):
     """Whether the value is a chooser paper."""
     check_reader(reader)
-    if not is_list(value) or not all([_is_told_choice(reader, item) for item in value]):
-        return False
-    if not is_rising([item[0] for item in value]):
+    if not are_told(value, lambda item: _is_told_choice(reader, item)):
         return False
     numbers = {position: number for position, _, number in value}
     if FIRST_POSITION not in numbers:
@@ -77,9 +75,7 @@ def is_chooser_paper(reader, value):
 def is_foe_paper(reader, value):
     """Whether the value is a foe paper."""
     check_reader(reader)
-    if not is_list(value) or not all([_is_told_letter(reader, item) for item in value]):
-        return False
-    if not is_rising([item[0] for item in value]):
+    if not are_told(value, lambda item: _is_told_letter(reader, item)):
         return False
     pairs = {position: pair for position, _, pair in value}
     if FIRST_POSITION not in pairs:

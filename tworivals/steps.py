@@ -1,6 +1,6 @@
 """Step plays: the foe takes ways of one reader, hand 0 follows by ways of another one; papers of both [8a]."""
 
-from tworivals.basics import is_below, is_count, is_list, is_pair, is_rising
+from tworivals.basics import are_told, is_below, is_count, is_list, is_pair
 from tworivals.boards import Board
 from tworivals.errors import InvalidPaper, InvalidRun
 from tworivals.graphs import least_pairs, most_worth, numbered
@@ -49,9 +49,7 @@ def leaving_paper(reader, other):
 def is_following_paper(reader, other, value):
     """Whether the value is a following paper."""
     check_both(reader, other)
-    if not is_list(value) or not all([_is_answered(reader, other, item) for item in value]):
-        return False
-    if not is_rising([item[0] for item in value]):
+    if not are_told(value, lambda item: _is_answered(reader, other, item)):
         return False
     numbers = {stand: number for stand, _, number in value}
     if FIRST_STAND not in numbers:
@@ -66,9 +64,7 @@ def is_following_paper(reader, other, value):
 def is_leaving_paper(reader, other, value):
     """Whether the value is a leaving paper."""
     check_both(reader, other)
-    if not is_list(value) or not all([_is_left(reader, other, item) for item in value]):
-        return False
-    if not is_rising([item[0] for item in value]):
+    if not are_told(value, lambda item: _is_left(reader, other, item)):
         return False
     pairs = {stand: pair for stand, _, pair in value}
     if FIRST_STAND not in pairs:

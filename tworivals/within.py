@@ -1,6 +1,6 @@
 """Whether the rows of one reader are among those of another one, with papers, and rows that part them [3b]."""
 
-from tworivals.basics import is_count, is_list, is_pair, is_rising
+from tworivals.basics import are_told, is_count, is_pair
 from tworivals.breaks import coming_standings, gone_on
 from tworivals.checks import is_row_of
 from tworivals.errors import UnlikeLetters
@@ -36,9 +36,7 @@ def within_paper(reader, other):
 def is_within_paper(reader, other, value):
     """Whether the value is a within paper."""
     check_both(reader, other)
-    if not is_list(value) or not all([_is_numbered(reader, other, item) for item in value]):
-        return False
-    if not is_rising([node for node, _ in value]):
+    if not are_told(value, lambda item: _is_numbered(reader, other, item)):
         return False
     numbers = {node: number for node, number in value}
     return FIRST_POSITION in numbers and all([_holds(reader, other, numbers, node) for node in numbers])
