@@ -142,7 +142,8 @@ class TestClaims(PromiseCase):
                  ("won", board, -1), ("won", board, False), ("lost", board), ("won", last, 0), ("lost", 0, board),
                  ("follows", last, clean_reader(3)), ("leaves", last), ["let", last, row], ("Let", last, row), (last, "let", row),
                  ("", last, row), (None, last, row), (["let"], last, row), ("let", None, row), ("ahead", 1, last), (),
-                 ("let barred", last, row), ("chooser ", last), ("won", board, 10 ** 29), ("ahead", last, 10 ** 29)]
+                 ("let barred", last, row), ("Within", last, last), ("", last, last), (None, last, last), ("reader", last, last), (last, last, last),
+                 ("let", last, last), ("chooser", board), ("won", last, last), ("ahead", last, last), ("chooser ", last), ("won", board, 10 ** 29), ("ahead", last, 10 ** 29)]
         self.assertTrue(all(is_told_claim(value) for value in good))
         for value in wrong:
             self.assertFalse(is_told_claim(value))

@@ -181,10 +181,12 @@ class TestBoards(PromiseCase):
             for letters in (1, 2, 3):
                 for wish in (Wish(1, [0], [[(letters, 0)]]), Wish(2, [0, 1], [[(0, 0)], [(0, 1), (letters, 0)]])):
                     self.refuses(InvalidWish, wish, function, slip_reader(letters), wish, *[None for _ in more])
-            # The hand is refused ahead of too many standings.
+            # The hand is refused ahead of too many standings, and of too many places.
             if more:
                 for hand in (2, -1, None, True, False, "0", [0], 10 ** 29):
                     self.refuses(InvalidHand, hand, function, full_reader(), ONE_WISH[0], hand, *[None for _ in more[1:]])
+                    for limit in (WISH_601, STAND_IN_601_LOST):
+                        self.refuses(InvalidHand, hand, function, *game_at(limit), hand, *[None for _ in more[1:]])
 
 
 class TestWinners(PromiseCase):

@@ -103,8 +103,7 @@ def _told(kind, part):
         return KINDS.index(part) if part in KINDS else None
     if kind == "LINES":
         return _reader(part)
-    if kind == "WORD":
-        return part
+    # Of the words of claims, too, each is like a name.
     return part if is_name(part) else None
 
 

@@ -2,7 +2,7 @@
 
 from tworivals.claims import is_claim, is_true
 from tworivals.cutting import cutting
-from tworivals.errors import InvalidClaim, LabelTaken, NameTaken, TooMany, UnknownLabel, UnknownName
+from tworivals.errors import LabelTaken, NameTaken, TooMany, UnknownLabel, UnknownName
 from tworivals.joined import both_of, either_of
 from tworivals.readers import Reader, renamed
 from tworivals.rows import turned_on, woven
@@ -134,10 +134,8 @@ def _with_one_less(reader, number):
 def _noted(page, kinds, parts, values):
     """The page with a claim more."""
     label, word, *things = values
-    claim = (word, *things)
-    if not is_claim(claim):
-        raise InvalidClaim(claim)
-    state = TRUE if is_true(claim) else FALSE
+    # What is no claim is refused here.
+    state = TRUE if is_true((word, *things)) else FALSE
     claims = {**page.claims, label: (word, kinds[2:], parts[2:])}
     if len(claims) > MOST_LABELS:
         raise TooMany("labels", MOST_LABELS)

@@ -60,7 +60,7 @@ def read(sort, text):
 
 def _check_sort(sort):
     """Only the word of a sort passes."""
-    if not isinstance(sort, str) or sort not in SORTS:
+    if sort not in SORTS:
         raise InvalidSort(sort)
 
 
