@@ -7,7 +7,8 @@ from tests.limits import (LETTER_600_LOST, LETTER_600_WON, LETTER_601_WON, RIVAL
                           RIVALS_3_601, reader_at)
 from tests.play_oracles import GUESS, LONE, ONCE, PARTS, doubtful_readers, small_readers
 from tests.tools import (WAYS_401, PromiseCase, changed, clean_reader, full_reader, junk, last_reader, round_reader,
-                         slip_reader, some_rows, step_reader)
+                         slip_reader, some_rows)
+from tests.test_within import counting_reader, word_reader
 from tests.wish_limits import STEP_600_FOLLOWED, STEP_601_LEFT, readers_at
 from tworivals.boards import Board
 from tworivals.claims import contrary, is_claim, is_paper_of, is_true, paper_of, words
@@ -249,13 +250,15 @@ class TestTruth(PromiseCase):
         self.gives(True, is_true, ("within", wide, clean_reader(3)))
 
     def test_letters(self):
-        # A row that parts them has to be longer than a row may be: all 1s but each twelfth of each eleventh.
-        reader = step_reader(12)
-        for rooms in (11, 7):
-            other = Reader(2, rooms, [(room, 0, room, 0) for room in range(rooms)]
-                           + [(room, 1, (room + 1) % rooms, 1 if room == rooms - 1 else 0) for room in range(rooms)])
-            for claim in (("within", reader, other), ("within", other, reader)):
-                self.checked(claim)
+        # Of what parts them a ring has rooms times many letters, perhaps more than a row may have; true it is all the same.
+        for rooms, many in ((8, 5), (10, 4), (6, 7), (7, 6), (12, 4)):
+            reader, other = word_reader(rooms), counting_reader(many)
+            self.assertEqual(oracles.is_soon_parted(reader, other), rooms * many <= 40)
+            self.assertIs(self.checked(("within", reader, other)), False)
+            self.gives(True, is_true, ("parted", reader, other))
+            if rooms * many > 40:
+                self.too_many("letters", 40, paper_of, ("parted", reader, other))
+                self.gives(None, paper_of, ("within", reader, other))
 
 
 class TestPapers(PromiseCase):
